@@ -13,7 +13,6 @@ import (
 	"astragal/load"
 	"astragal/poly"
 	"astragal/seal"
-	"astragal/stream"
 )
 
 func list(r *rand.Rand, n int) []uint64 {
@@ -217,9 +216,6 @@ func TestSameStateOf(t *testing.T) {
 		if s, e := State(c); c.What != Source && (s != (api.State{}) || e != api.ErrKind) {
 			t.Error("State of another What", c.What, s, e)
 		}
-	}
-	if stream.Check(api.Sip24, api.U128{}) != api.OK {
-		t.Error("a hasher")
 	}
 }
 
