@@ -41,6 +41,10 @@ func TestRow(t *testing.T) {
 			t.Fatal(x, got, e)
 		}
 	}
+	last := list(r, 320)
+	if got, e := Row(last, 1<<32-1); !slices.Equal(got, rowOf(last, 1<<32-1)) || e != api.OK {
+		t.Error("the greatest key", got, e)
+	}
 	if got, e := Row(make([]uint64, 320), 0x21); !slices.Equal(got, []int{1, 2, 0, 0, 0, 0, 0, 0, 0, 0, 0, 0}) || e != api.OK {
 		t.Error("the chapter's example", got, e)
 	}

@@ -112,7 +112,7 @@ func TestLanesAndReset(t *testing.T) {
 	b := []byte("0123456789abcdefxyz")
 	h.Write(b)
 	// After one block the lanes are what the block made of the seed.
-	first := step(lanes{5, 5}, b[:16])
+	first := step(state{5, 5}, b[:16])
 	want := [4]uint64{first[0], first[1]}
 	all, long, tail := h.Lanes()
 	if all != want || long != 19 || !bytes.Equal(tail, []byte("xyz")) {

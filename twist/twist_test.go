@@ -47,6 +47,10 @@ func TestTurn(t *testing.T) {
 			}
 		}
 	}
+	last := list(r, 240)
+	if got, e := Turn(last, 1<<32-1); got != turned(last, 1<<32-1) || e != api.OK {
+		t.Error("the greatest key", got, e)
+	}
 	if got, e := Turn(make([]uint64, 240), 0x12345678); got != 0x12345678 || e != api.OK {
 		t.Error("the chapter's example", got, e)
 	}

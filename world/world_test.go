@@ -515,6 +515,22 @@ func TestSourceLikeTape(t *testing.T) {
 	}
 }
 
+// P49.2, G3: a jump takes the lowest word first.
+func TestJump(t *testing.T) {
+	r := rand.New(rand.NewPCG(49, 4))
+	for kind := 1; kind <= api.LastGen; kind++ {
+		s, _ := gens.New(kind, r.Uint64())
+		n := api.U256{r.Uint64(), r.Uint64(), r.Uint64(), r.Uint64()}
+		want, _ := gens.Jump(s, n)
+		w := New(1)
+		h := mustCreate(t, w, config.Of(s))
+		got := w.Do(Op{Kind: Jump, H: h, A: n[:]})
+		if c, _ := w.Tell(h); !same(got, Reply{}) || !config.Same(c, config.Of(want)) {
+			t.Error(kind, n, got, c)
+		}
+	}
+}
+
 // P49.1 with P2
 func TestNothingIsShared(t *testing.T) {
 	w := New(4)

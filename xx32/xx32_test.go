@@ -109,7 +109,7 @@ func TestLanesAndReset(t *testing.T) {
 	h.Write(b)
 	// After one block the lanes are what the block made of those of the seed.
 	want := widened(step(start(5), b[:16]))
-	if start(5) != (lanes{606290989, 2246822524, 5, 1640531540}) {
+	if start(5) != (state{606290989, 2246822524, 5, 1640531540}) {
 		t.Error("the lanes of a new one", start(5))
 	}
 	all, long, tail := h.Lanes()
